@@ -96,7 +96,7 @@ func (m *model) tick() {
 	for i := m.told; i <= m.last; i++ {
 		may = may || slices.Contains(m.voters(i), m.self)
 	}
-	if !may || m.clock < 10+3*m.self {
+	if !may || m.clock < 10+3*m.self || m.term == most {
 		return
 	}
 	m.term++
@@ -248,11 +248,11 @@ func (m *model) hearAppend(x api.Mail) {
 		ahead++
 		past = m.at[m.base].Term
 		if len(l) > 0 {
-			l = l[1:]
+			past, l = l[0].Term, l[1:]
 		}
 	}
 	if e, in := m.at[ahead]; !in || e.Term != past {
-		m.post(api.Mail{Kind: api.MailAppended, To: x.From, Index: min(m.last, x.Index-1)})
+		m.post(api.Mail{Kind: api.MailAppended, To: x.From, Index: min(m.last, ahead-1)})
 		return
 	}
 	for i, e := range l {
@@ -346,7 +346,7 @@ func (m *model) offer(kind int, text string) api.Errno {
 }
 
 func (m *model) compact(index int, text string) api.Errno {
-	if index <= m.base || index > m.told {
+	if index <= m.base || index > m.told || index > most {
 		return api.ErrArg
 	}
 	if len(text) > api.MaxText {
@@ -356,23 +356,22 @@ func (m *model) compact(index int, text string) api.Errno {
 	return api.OK
 }
 
-// falls: does a term fall? By mails that no leader sends that may be.
-func (m *model) falls() bool {
-	for i := m.base; i < m.last; i++ {
-		if m.at[i].Term > m.at[i+1].Term {
-			return true
-		}
-	}
-	return false
-}
-
-// state is a small one that may be kept.
+// state is a small one that may be kept, its numbers sometimes near the greatest ones.
 func (d dice) state() state {
 	s := state{term: d.Intn(4), vote: d.Intn(8) - 1, index: d.Intn(3) * d.Intn(3), voters: names(d.nodes()...), text: "base"}
-	s.past = d.Intn(s.term + 1)
+	if d.Intn(10) == 0 {
+		s.term = most - s.term
+	}
+	if d.Intn(10) == 0 {
+		s.index = most - s.index
+	}
+	s.past = d.upTo(s.term)
 	s.log = d.entries(d.Intn(6), s.past, s.term)
 	return s
 }
+
+// upTo is a term not above another one, nor far below it.
+func (d dice) upTo(term int) int { return term - d.Intn(min(term, 9)+1) }
 
 // entries are some whose terms rise from past on up to term at most.
 func (d dice) entries(n, past, term int) []api.Entry {
@@ -406,7 +405,7 @@ func (d dice) mail(m *model) api.Mail {
 	}
 	x.Index = m.base - 2 + d.Intn(m.last-m.base+4)
 	x.Index = max(0, x.Index)
-	x.Past = d.Intn(x.Term + 1)
+	x.Past = d.upTo(x.Term)
 	if e, in := m.at[x.Index]; in && d.Intn(5) > 0 {
 		x.Past = min(e.Term, x.Term)
 	}
@@ -487,7 +486,7 @@ func (p *pair) step() {
 		i := p.m.base + p.d.Intn(p.m.told-p.m.base+2)
 		w, e = p.c.Compact(i, "text")
 		want = p.m.compact(i, "text")
-	case !p.m.falls():
+	default:
 		p.c, e = council.Load(p.m.self, p.c.Encode())
 		p.m = modelOf(p.m.self, p.m.kept())
 		p.m.out = api.Word{}

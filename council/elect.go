@@ -30,8 +30,11 @@ func (c *Council) Tick() api.Word {
 	return w
 }
 
-// mayStand: is self a voter, or was it one ahead of an entry that isn't committed for all it knows? Without the latter, one that has left by an entry that stands in its log alone would neither lead nor vote for those that need its vote.
+// mayStand: is self a voter, or was it one ahead of an entry that isn't committed for all it knows? Without the latter, one that has left by an entry that stands in its log alone would neither lead nor vote for those that need its vote. Behind the last term there is none to stand in: what is kept of it could not be loaded.
 func (c *Council) mayStand() bool {
+	if c.term >= mostNumber {
+		return false
+	}
 	if names(c.votersAt(c.told), c.self) {
 		return true
 	}

@@ -293,6 +293,33 @@ func TestElectionWithAFullLog(t *testing.T) {
 	asks(t, "alone with a full log", stands(t, loads(t, 0, s), 0), true, nil)
 }
 
+// P10.2, P10.6: in the last term that may be kept one may lead, but behind it there is no election.
+func TestElectionInTheLastTerm(t *testing.T) {
+	for _, nodes := range [][]int{{0}, {0, 1, 2}} {
+		c := loads(t, 0, state{term: most - 1, vote: -1, past: most - 1, voters: names(nodes...)})
+		elects(t, c, 0)
+		keeps(t, "a leader of the last term", c, state{term: most, vote: 0, past: most - 1, voters: names(nodes...), log: entries(none(most))})
+		offers(t, c, 1, "a")
+	}
+	s := state{term: most, vote: -1, voters: names(0), log: entries(none(most))}
+	c := loads(t, 0, s)
+	quiet(t, "alone in the last term", c, 100)
+	keeps(t, "alone in the last term", c, s)
+
+	c = begins(t, 0, 0, 1, 2)
+	asks(t, "a vote in the last term", c.Hear(vote(1, 0, most, 0, 0)), true, nil, voted(0, 1, most, true))
+	quiet(t, "one that voted in the last term", c, 100)
+	keeps(t, "one that voted in the last term", c, state{term: most, vote: 1, voters: names(0, 1, 2)})
+	asks(t, "a leader of the last term", c.Hear(appends(1, 0, most, 0, 0, 1, none(most))), true, news(1, none(most)), appended(0, 1, most, true, 1))
+	quiet(t, "one that follows in the last term", c, 100)
+
+	c = begins(t, 0, 0, 1, 2)
+	stands(t, c, 0)
+	asks(t, "one that stands hears of the last term", c.Hear(voted(1, 0, most, false)), true, nil)
+	quiet(t, "one that stands hears of the last term", c, 100)
+	keeps(t, "one that stands hears of the last term", c, state{term: most, vote: -1, voters: names(0, 1, 2)})
+}
+
 // P10.6: who leads by a majority puts an entry behind its log, once.
 func TestLeaderBegins(t *testing.T) {
 	s := state{term: 3, vote: -1, index: 4, past: 2, voters: names(0, 1, 2), log: entries(change(2, "a"), change(3, "b"))}

@@ -113,7 +113,8 @@ func TestAppendAheadOfTheBase(t *testing.T) {
 	}{
 		{"all of it below the base", 1, 1, entries(none(1)), 4, behind().log},
 		{"nothing below the base", 2, 1, nil, 4, behind().log},
-		{"up to the base", 0, 0, rows(4, none(0)), 4, behind().log},
+		{"up to the base", 0, 0, entries(none(0), none(0), none(1), none(2)), 4, behind().log},
+		{"up to the one ahead of the base", 0, 0, rows(3, none(5)), 4, behind().log},
 		{"the base, and one", 3, 1, entries(none(2), change(2, "x")), 5, behind().log},
 		{"the base, and others", 3, 1, entries(none(2), change(4, "x"), change(4, "y")), 6, entries(change(4, "x"), change(4, "y"))},
 		{"the base, and all, and one more", 2, 2, append(rows(3, none(2)), none(3), none(3), none(5)), 8, append(behind().log, none(5))},
@@ -124,6 +125,49 @@ func TestAppendAheadOfTheBase(t *testing.T) {
 		s.log = x.log
 		keeps(t, x.what, c, s)
 		asks(t, x.what, w, len(x.log) != 3, nil, appended(0, 1, 5, true, x.answer))
+	}
+}
+
+// P10.9, P10.2: the base's own entry, told with another term, doesn't fit: what stands behind it isn't taken.
+func TestAppendAgainstTheBase(t *testing.T) {
+	for _, x := range []struct {
+		what        string
+		index, past int
+		l           []api.Entry
+	}{
+		{"the base alone, of a lower term", 3, 1, entries(none(1))},
+		{"the base alone, of a higher term", 3, 1, entries(none(3))},
+		{"a row up to the base", 0, 0, rows(4, none(0))},
+		{"the base, and one of a lower term", 3, 1, entries(none(1), none(1))},
+		{"the base, and one as it is there", 3, 1, entries(none(1), change(2, "a"))},
+		{"the base, and all as it is there, and more", 3, 1, append(entries(none(1)), append(behind().log, none(5))...)},
+		{"the base of a higher term, and more", 3, 1, rows(9, none(5))},
+		{"a row to behind the end", 0, 0, rows(9, none(1))},
+		{"as many as a mail has", 1, 1, rows(api.MaxList, none(1))},
+	} {
+		c := loads(t, 0, behind())
+		quiet(t, x.what, c, 9)
+		asks(t, x.what, c.Hear(appends(1, 0, 5, x.index, x.past, 9, x.l...)), false, nil, appended(0, 1, 5, false, 3))
+		keeps(t, x.what, c, behind())
+		has(t, x.what, c, 1, 4, 0, 1, 2)
+		quiet(t, "the sender is followed", c, 9)
+	}
+}
+
+// P10.2, P10.9: a base that was heard of, and then a mail of the same term that begins ahead of it.
+func TestAppendBehindASnap(t *testing.T) {
+	for _, x := range []struct{ term, index, entry, more int }{{1, 1, 0, 1}, {3, 5, 1, 1}, {3, 5, 2, 0}, {3, 5, 0, 60}} {
+		c := begins(t, 1, 0, 1, 2)
+		c.Hear(snap(0, 1, x.term, x.index, x.term, "", 0, 1, 2))
+		s := state{term: x.term, vote: -1, index: x.index, past: x.term, voters: names(0, 1, 2)}
+		keeps(t, "a base", c, s)
+		m := appends(0, 1, x.term, 0, 0, 0, rows(x.index+x.more, none(x.entry))...)
+		asks(t, "a mail with another base", c.Hear(m), false, nil, appended(1, 0, x.term, false, x.index-1))
+		keeps(t, "a mail with another base", c, s)
+		m = appends(0, 1, x.term, 0, 0, 0, append(rows(x.index-1, none(x.entry)), rows(3, none(x.term))...)...)
+		asks(t, "a mail with that base", c.Hear(m), true, nil, appended(1, 0, x.term, true, x.index+2))
+		s.log = rows(2, none(x.term))
+		keeps(t, "a mail with that base", c, s)
 	}
 }
 

@@ -66,13 +66,16 @@ func (c *Council) hearAppend(w *api.Word, m api.Mail) {
 	c.post(w, answer)
 }
 
-// behindBase is the entry ahead of a mail's entries, and these, without what stands up to the base.
+// behindBase is the entry ahead of a mail's entries, and these, without what stands up to the base. Where the mail tells the base's own entry, its term is to be held against the base's: entries that follow another one may be below the base's term.
 func (c *Council) behindBase(m api.Mail) (ahead, past int, l []api.Entry) {
 	below := c.base.index - m.Index
-	if below <= 0 {
+	switch {
+	case below <= 0:
 		return m.Index, m.Past, m.Entries
+	case below <= len(m.Entries):
+		return c.base.index, m.Entries[below-1].Term, m.Entries[below:]
 	}
-	return c.base.index, c.base.term, m.Entries[min(below, len(m.Entries)):]
+	return c.base.index, c.base.term, nil
 }
 
 func (c *Council) hearSnap(w *api.Word, m api.Mail) {

@@ -147,7 +147,7 @@ func asksNothing(t *testing.T, what string, w api.Word) {
 	asks(t, what, w, false, nil)
 }
 
-// keeps checks what is kept, and what is told of it.
+// keeps checks what is kept, that it can be loaded, and what is told of it.
 func keeps(t *testing.T, what string, c *council.Council, s state) {
 	t.Helper()
 	if !bytes.Equal(c.Encode(), s.bytes()) {
@@ -155,6 +155,20 @@ func keeps(t *testing.T, what string, c *council.Council, s state) {
 	}
 	if c.Term() != s.term || c.Last() != s.index+len(s.log) {
 		t.Errorf("%s: term %d, last %d", what, c.Term(), c.Last())
+	}
+	comesBack(t, what, c)
+}
+
+// comesBack checks that what is kept can be loaded, and is the same council.
+func comesBack(t *testing.T, what string, c *council.Council) {
+	t.Helper()
+	b := c.Encode()
+	d, e := council.Load(0, b)
+	if e != api.OK {
+		t.Fatalf("%s: what is kept can't be loaded: error %d, %q", what, e, shortBytes(b))
+	}
+	if !bytes.Equal(d.Encode(), b) || d.Term() != c.Term() || d.Last() != c.Last() || !slices.Equal(d.Voters(), c.Voters()) {
+		t.Errorf("%s: what is loaded is another one", what)
 	}
 }
 

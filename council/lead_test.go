@@ -366,3 +366,26 @@ func TestCompactOfOneThatFollows(t *testing.T) {
 	compacts(t, c, 5, "x")
 	keeps(t, "one that follows", c, state{term: 6, vote: -1, index: 5, past: 4, voters: names(0, 1), text: "x", log: entries(none(6))})
 }
+
+// P10.2, P10.10: a base above the greatest number could not be loaded: entries there may be told, and stay in the log.
+func TestCompactAboveAllNumbers(t *testing.T) {
+	c := begins(t, 0, 0, 1)
+	c.Hear(snap(1, 0, 1, most-1, 1, "base", 0))
+	elects(t, c, 0)
+	offers(t, c, 1, "a")
+	offers(t, c, 1, "b")
+	has(t, "entries above all numbers", c, 0, most+2, 0)
+	s := state{term: 2, vote: 0, index: most - 1, past: 1, voters: names(0), text: "base", log: entries(none(2), change(2, "a"), change(2, "b"))}
+	keeps(t, "entries above all numbers", c, s)
+	for _, i := range []int{most + 1, most + 2, most + 3} {
+		for _, text := range []string{"x", strings.Repeat("x", api.MaxText+1)} {
+			if w, e := c.Compact(i, text); e != api.ErrArg || w.Keep {
+				t.Errorf("at %d: error %d", i, e)
+			}
+		}
+	}
+	keeps(t, "a base above all numbers", c, s)
+	compacts(t, c, most, "x")
+	s.index, s.past, s.text, s.log = most, 2, "x", s.log[1:]
+	keeps(t, "the greatest number", c, s)
+}
