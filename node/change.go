@@ -164,6 +164,9 @@ func (n *Node) settle() {
 	n.wish(api.Change{Kind: api.ChangeSettle})
 }
 
+// mayEnd: is a shard one of a change that isn't settled, or isn't told yet, by the council's News?
+func (n *Node) mayEnd(id int) bool { return id >= n.told.Next() || has(n.told.Open(), id) }
+
 // isInstalled: has a majority of a shard's members told that it has it installed?
 func (n *Node) isInstalled(id int) bool {
 	s, _ := n.told.Get(id)

@@ -231,10 +231,55 @@ func TestWishInAnotherTerm(t *testing.T) {
 	wishes(t, "it isn't told", n, renew(1), api.ErrBusy)
 	m, _ := begins(t, 0, three())
 	elected(t, m)
+	wishes(t, "a change", m, renew(1), api.OK)
+	appended(m, 2)
 	if _, e := m.Elect([]int{0, 1}); e != api.OK {
 		t.Fatalf("Elect: error %d", e)
 	}
-	wishes(t, "behind voters", m, renew(1), api.OK)
+	wishes(t, "behind voters that aren't agreed on", m, settle(), api.OK)
+}
+
+// P13.9: a wish is held against the map of the council's News, not against a newer one; so are bases.
+func TestWishByTheNews(t *testing.T) {
+	n, _ := begins(t, 0, three())
+	n.Hear(mapMail(behind(t, three(), renew(1), settle(), split(2, 4)), 1, 0))
+	elected(t, n)
+	wishes(t, "what the newest map has, and the News' hasn't", n, renew(2), api.ErrNone)
+	want := atFirst(t, three())
+	index := 1
+	for range 40 {
+		for _, c := range []api.Change{renew(want.Shards()[0].Id), settle()} {
+			wishes(t, "what the News' map has", n, c, api.OK)
+			want.Apply(c)
+			index++
+			appended(n, index)
+		}
+		if index == 3 {
+			// So that the newest map is ahead again: of another history, which the council knows nothing of.
+			n.Hear(mapMail(farAhead(t), 1, 0))
+		}
+	}
+	l := of(n.Hear(api.Mail{Kind: api.MailAppended, From: 2, To: 0, Term: 1}), api.MailSnap)
+	if len(l) != 1 || l[0].Text == string(n.Map().Encode()) {
+		t.Fatalf("who has nothing yet is told %v", l)
+	}
+	base := atFirst(t, three())
+	for i := range l[0].Index - 1 {
+		base.Apply([]api.Change{renew(base.Shards()[0].Id), settle()}[i%2])
+	}
+	if l[0].Text != string(base.Encode()) || l[0].Index < 60 {
+		t.Errorf("the base up to %d isn't the map of the News", l[0].Index)
+	}
+}
+
+// farAhead is a map of a great epoch.
+func farAhead(t *testing.T) *atlas.Atlas {
+	a := atFirst(t, three())
+	for range 100 {
+		a.Apply(renew(a.Shards()[0].Id))
+		a.Apply(settle())
+	}
+	return a
 }
 
 // P13.9: Elect is the council's Offer.

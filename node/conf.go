@@ -10,9 +10,6 @@ import (
 	"lamella/warden"
 )
 
-// never is behind which tick a node was heard of that wasn't: longer ago than any Mute.
-const never = -1 << 30
-
 // May: P13.1.
 func May(c api.Conf) bool {
 	return isFrom(1, c.Nodes, api.MaxNodes) && isFrom(0, c.Half, (c.Nodes-1)/2) &&
@@ -57,14 +54,10 @@ func upTo(count int) []int {
 
 // begun is a node that knows of nothing yet.
 func begun(self int, c api.Conf) *Node {
-	n := &Node{
+	return &Node{
 		self: self, conf: c, hosts: map[int]*host{}, lasts: map[int]*blocks.Store{},
 		installed: map[int][api.MaxNodes]bool{}, loads: map[int]api.Load{},
 	}
-	for node := range n.heard {
-		n.heard[node] = never
-	}
-	return n
 }
 
 // Open: P13.1. A device that another node has kept is refused, too: who took part by its promises would be two nodes.

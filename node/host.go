@@ -36,22 +36,20 @@ type order struct {
 	waits bool
 }
 
-// hosted is the shards that a node hosts by a map: those that it is a member of, and those that open ones are made of.
+// hosted is the shards that a node hosts by a map: those that it is a member of, and those that open ones are made of, which may stand there twice.
 func hosted(a *atlas.Atlas, self int) []*host {
 	var l []*host
-	add := func(h *host) {
-		isIt := func(x *host) bool { return x.origin.Id == h.origin.Id }
-		if has(h.origin.Members, self) && !slices.ContainsFunc(l, isIt) {
-			l = append(l, h)
-		}
-	}
 	for _, s := range a.Shards() {
-		add(&host{origin: api.Origin{Id: s.Id, Span: s.Span, Members: s.Members}, past: s.Past})
+		if has(s.Members, self) {
+			l = append(l, &host{origin: api.Origin{Id: s.Id, Span: s.Span, Members: s.Members}, past: s.Past})
+		}
 	}
 	for _, id := range a.Open() {
 		s, _ := a.Get(id)
 		for _, o := range s.Past {
-			add(&host{origin: o, closing: true})
+			if has(o.Members, self) {
+				l = append(l, &host{origin: o, closing: true})
+			}
 		}
 	}
 	return l
@@ -68,8 +66,7 @@ func (n *Node) rehost() {
 	n.hosts = map[int]*host{}
 	for _, h := range hosted(n.atlas, n.self) {
 		if old, in := had[h.origin.Id]; in && sameOrigin(old.origin, h.origin) {
-			old.past = h.past
-			old.close(h.closing)
+			old.past, old.closing = h.past, h.closing
 			h = old
 		}
 		n.hosts[h.origin.Id] = h
@@ -77,18 +74,10 @@ func (n *Node) rehost() {
 	n.forget()
 }
 
-// close notes whether the shard is closing: its clock is of the time that it has been.
-func (h *host) close(closing bool) {
-	if closing != h.closing {
-		h.closing, h.clock = closing, 0
-	}
-}
-
 // forget lets go what was told for shards that don't wait for it any more.
 func (n *Node) forget() {
 	maps.DeleteFunc(n.lasts, func(id int, _ *blocks.Store) bool { return !n.awaits(id) })
-	open := append(n.told.Open(), n.atlas.Open()...)
-	maps.DeleteFunc(n.installed, func(id int, _ [api.MaxNodes]bool) bool { return !slices.Contains(open, id) })
+	maps.DeleteFunc(n.installed, func(id int, _ [api.MaxNodes]bool) bool { return !n.mayEnd(id) })
 }
 
 // awaits: does a shard wait for the last state of that one?

@@ -80,6 +80,46 @@ func TestLogIsKept(t *testing.T) {
 	}
 }
 
+// P13.3, P13.4: behind a crash the News are told anew from the base on, and take nothing back: an end of an earlier change doesn't end a later one.
+func TestNewsBehindACrash(t *testing.T) {
+	n, d := begins(t, 2, three())
+	append1(n, 2, 0, api.Entry{Term: 1}, change(split(1, 4)), change(settle()), change(renew(2)))
+	want := behind(t, three(), split(1, 4), settle(), renew(2))
+	has(t, "ahead of a crash", n, want)
+	d.Crash(0)
+	n = opens(t, d, 2)
+	for i := range 5 {
+		n.Hear(api.Mail{Kind: api.MailAppend, From: 1, To: 2, Term: 1, Index: 4, Past: 1, Commit: i})
+		has(t, "told anew", n, want)
+	}
+	append1(n, 2, 4, change(settle()))
+	has(t, "its own end", n, behind(t, three(), split(1, 4), settle(), renew(2), settle()))
+}
+
+// P13.3: of what a call keeps only the first bytes stay: the map is never ahead of the council's log, from which it follows.
+func TestPowerGoesAmidACall(t *testing.T) {
+	kept := 0
+	for keep := range 400 {
+		n, d := begins(t, 0, alone())
+		leads(t, n)
+		d.Stop(2)
+		if n.Wish(split(1, 4)); !n.Down() {
+			t.Fatal("it isn't down")
+		}
+		d.Crash(keep)
+		n = opens(t, d, 0)
+		leads(t, n)
+		open := len(n.Map().Open())
+		if _, e := n.Wish(settle()); (e == api.OK) != (open > 0) {
+			t.Fatalf("%d bytes stay: %d shards are open, and to end that is error %d", keep, open, e)
+		}
+		kept += min(open, 1)
+	}
+	if kept == 0 || kept == 400 {
+		t.Errorf("the map is kept %d times", kept)
+	}
+}
+
 // script lets a node that is alone do much, and is which texts its blocks have: of each the last one that was answered, and one that may have been done. It ends where the node is down.
 func script(n *node.Node, seq *int) (told, maybe map[int]string) {
 	told, maybe = map[int]string{}, map[int]string{}
@@ -203,9 +243,22 @@ func TestPowerGoesAtAWish(t *testing.T) {
 
 // P13.3: a device that gets full is exchanged: much more is kept one behind the other than it has room for.
 func TestExchange(t *testing.T) {
+	for _, told := range []int{1, 30, 4000} {
+		exchanges(t, told)
+	}
+}
+
+// exchanges lets a node on a device of 30 sectors write and write, whatever room it is told of.
+func exchanges(t *testing.T, told int) {
+	t.Helper()
 	c := alone()
+	c.Room = told
+	d, _ := disk.New(30)
+	if e := node.Format(d, 0, c); e != api.OK {
+		t.Fatalf("Format: error %d", e)
+	}
+	n := opens(t, d, 0)
 	c.Room = 30
-	n, d := begins(t, 0, c)
 	leads(t, n)
 	want := store(t, 0, 8)
 	seq, written, least := 0, 0, c.Room
@@ -227,9 +280,42 @@ func TestExchange(t *testing.T) {
 			t.Fatalf("renewal %d: it is down, or doesn't end", i)
 		}
 		stores(t, "renewed", n, s+1, want)
+		if i%7 == 0 {
+			n = opens(t, d, 0)
+			leads(t, n)
+		}
 	}
 	if written < 5*c.Room*api.Sector || least > c.Room/2 {
 		t.Errorf("%d bytes are written, and at least %d sectors taken", written, least)
+	}
+}
+
+// P13.3: so is one where all that counts takes much of the room: it is exchanged as long as there is room for that.
+func TestExchangeOfMuch(t *testing.T) {
+	for _, again := range []bool{false, true} {
+		c := alone()
+		c.Room = 240
+		n, d := begins(t, 0, c)
+		leads(t, n)
+		want := store(t, 0, 8)
+		seq := 0
+		for i := range 400 {
+			s := n.Map().Shards()[0].Id
+			seq++
+			x := write(1, seq, min(seq-1, 7), "text "+number(seq)+strings.Repeat(".", 20+4000*min(1, 7/seq)))
+			sends(t, "a write", n.Hear(asks(0, s, x)), replies(0, s, x))
+			want.Apply(x)
+			if i%40 == 8 {
+				n.Wish(renew(s))
+				ticks(n, 3)
+			}
+			if again && i%40 == 10 {
+				n = opens(t, d, 0)
+				leads(t, n)
+			}
+		}
+		stores(t, "behind all of it", n, n.Hosts()[0], want)
+		isKept(t, n, d, 0)
 	}
 }
 

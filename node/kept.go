@@ -111,7 +111,7 @@ func (s *keptShard) grow(part *blocks.Store) bool {
 // takeInst takes an instance of an installed shard.
 func (k *kept) takeInst(r *octet.Reader) bool {
 	s, in := k.shards[int(r.Int())]
-	return in && s.base != nil && s.table.Put(insts.Take(r)) == api.OK
+	return in && s.table.Put(insts.Take(r)) == api.OK
 }
 
 // take goes on with a record.

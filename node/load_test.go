@@ -2,6 +2,7 @@ package node_test
 
 import (
 	"math"
+	"slices"
 	"testing"
 
 	"lamella/api"
@@ -179,6 +180,33 @@ func TestDecideByWhom(t *testing.T) {
 	o.Hear(load(1, 0, 1, 9, 0, 5))
 	if i := changedAt(o, 40, nothing); i > 0 {
 		t.Errorf("what was told for the last one counts: tick %d", i)
+	}
+}
+
+// P13.9a: what was told for a sixteenth tick with which nothing could be decided doesn't count later.
+func TestDecideByWhatIsNew(t *testing.T) {
+	n, _ := begins(t, 0, ruled(four(), api.Rules{Hot: 10, Cap: 9}))
+	leads(t, n)
+	wishes(t, "a renewal", n, renew(1), api.OK)
+	n.Hear(load(1, 0, 2, 30, 0, 5))
+	ticks(n, 6)
+	wishes(t, "its end", n, settle(), api.OK)
+	if i := changedAt(n, 40, nothing); i > 0 {
+		t.Errorf("it wishes with tick %d", i)
+	}
+}
+
+// P13.9a: it is decided by the map of the council's News, not by a newer one.
+func TestDecideByTheNews(t *testing.T) {
+	c := ruled(three(), api.Rules{Hot: 10, Cap: 9})
+	n, _ := begins(t, 0, c)
+	n.Hear(mapMail(behind(t, c, renew(1), settle()), 1, 0))
+	elected(t, n)
+	n.Hear(load(1, 0, 1, 30, 0, 5))
+	n.Hear(load(1, 0, 2, 40, 0, 6))
+	l := of(ticks(n, 6), api.MailAppend)
+	if !slices.ContainsFunc(l, func(m api.Mail) bool { return slices.Contains(m.Entries, change(split(1, 5))) }) {
+		t.Errorf("it sends %v", l)
 	}
 }
 

@@ -58,6 +58,17 @@ func TestWrongs(t *testing.T) {
 	if len(n.Insts(2))+len(n.Insts(3)) > 0 {
 		t.Error("something is proposed")
 	}
+	o, _ := begins(t, 1, four())
+	o.Hear(mapMail(behind(t, four(), split(1, 4), settle()), 0, 1))
+	o.Hear(state(0, 1, 2, store(t, 0, 4)))
+	o.Hear(state(0, 1, 3, store(t, 4, 12)))
+	for _, x := range []struct {
+		shard int
+		c     api.Cmd
+	}{{3, read(0, 1, 3, 5)}, {3, read(0, 1, 0, 4)}, {2, read(0, 1, 3, 5)}, {2, read(0, 1, 4, 5)}, {3, read(0, 1, 11, 13)}} {
+		sends(t, "not all of its blocks", o.Hear(asks(1, x.shard, x.c)), wrong(1, 100, x.c, o.Map()))
+	}
+	sends(t, "its first and last block", of(o.Hear(asks(1, 3, read(0, 1, 4, 12))), api.MailWrong))
 	c, _ := begins(t, 3, four())
 	sends(t, "no member", c.Hear(asks(3, 1, w)), wrong(3, 100, w, atFirst(t, four())))
 }
@@ -106,15 +117,19 @@ func TestRequestsWait(t *testing.T) {
 	r := read(1, 1, 2, 3)
 	k := n.Hear(asks(0, 1, r))
 	sends(t, "another one", k, first(n, 2, r, 2, api.Ref{Index: 1})...)
-	for _, other := range []api.Cmd{write(0, 1, 2, "b"), write(0, 2, 2, "a"), write(0, 1, 3, "a"), command(api.OpTrim, 0, 1, 2, 3)} {
-		if l := n.Hear(asks(0, 1, other)); len(of(l, api.MailPre)) != 2 || l[0].Inst.Cmd.Seq != other.Seq {
+	others := []api.Cmd{
+		write(0, 1, 2, "b"), write(0, 2, 2, "a"), write(0, 1, 3, "a"), command(api.OpTrim, 0, 1, 2, 3), command(api.OpFlush, 1, 1, 2, 3),
+		read(2, 1, 2, 3), read(1, 1, 2, 4), read(1, 1, 1, 3), read(1, 2, 2, 3),
+	}
+	for _, other := range others {
+		if l := n.Hear(asks(0, 1, other)); len(of(l, api.MailPre)) != 2 || !cmdsAlike(l[0].Inst.Cmd, other) {
 			t.Fatalf("one that isn't the same: %v", l)
 		}
 	}
 	sends(t, "decided, but not executed", of(n.Hear(preOk(k)), api.MailReply, api.MailWrong))
 	sends(t, "decided, and executed", of(n.Hear(preOk(l)), api.MailReply, api.MailWrong), replies(0, 1, w), replies(0, 1, r, "a"))
 	l = n.Hear(asks(0, 1, w))
-	if len(of(l, api.MailPre)) != 2 || l[0].Inst.Ref.Index != 7 {
+	if len(of(l, api.MailPre)) != 2 || l[0].Inst.Ref.Index != 3+len(others) {
 		t.Errorf("executed, and asked again, it sends %v", l)
 	}
 }
@@ -139,14 +154,25 @@ func TestRequestsBehindACrash(t *testing.T) {
 	}
 }
 
-// P13.7: what another node proposed is nobody's here.
-func TestRequestsOfOthers(t *testing.T) {
+// P13.7, rule 4: who waits for a command is answered, though the mail that brought it was changed meanwhile.
+func TestRequestsAreCopied(t *testing.T) {
 	n, _ := begins(t, 0, three())
+	texts := []string{"a"}
+	l := n.Hear(asks(0, 1, write(0, 1, 2, texts...)))
+	texts[0] = "spoilt"
+	sends(t, "executed", of(n.Hear(preOk(l)), api.MailReply, api.MailWrong), replies(0, 1, write(0, 1, 2, "a")))
+}
+
+// P13.7: what another node proposed is nobody's here, also behind a crash.
+func TestRequestsOfOthers(t *testing.T) {
+	n, d := begins(t, 0, three())
 	w := write(0, 1, 2, "a")
 	x := decided(1, 1, w, 1)
 	x.Status = api.Seen
 	n.Hear(api.Mail{Kind: api.MailPre, From: 1, To: 0, Shard: 1, Inst: x})
+	m := opens(t, d.Clone(), 0)
 	sends(t, "another node proposed it, too", n.Hear(asks(0, 1, w)), first(n, 1, w, 2, x.Ref)...)
+	sends(t, "behind a crash", m.Hear(asks(0, 1, w)), first(m, 1, w, 2, x.Ref)...)
 }
 
 // P13.7: what is executed behind a freeze isn't done.

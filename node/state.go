@@ -82,9 +82,9 @@ func (n *Node) tellInstalled() {
 	}
 }
 
-// hearInstalled notes who has an open shard installed. Of others it is told again, when they are open.
+// hearInstalled notes who has a shard installed, till the change that made it is settled.
 func (n *Node) hearInstalled(m api.Mail) {
-	if has(n.told.Open(), m.Shard) || has(n.atlas.Open(), m.Shard) {
+	if n.mayEnd(m.Shard) {
 		l := n.installed[m.Shard]
 		l[m.From] = true
 		n.installed[m.Shard] = l

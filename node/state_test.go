@@ -52,6 +52,28 @@ func TestHosts(t *testing.T) {
 	}
 }
 
+// P13.5: a map by which a shard has other blocks, or other members, than it had, has another shard, that waits.
+func TestHostsOfAnotherMap(t *testing.T) {
+	for _, x := range []api.Change{split(1, 5), replace(1, 2, 3)} {
+		n, d := begins(t, 1, four())
+		n.Hear(mapMail(behind(t, four(), split(1, 4), settle()), 0, 1))
+		n.Hear(state(0, 1, 2, store(t, 0, 4)))
+		hosts(t, "one map", n, 2)
+		other := behind(t, four(), x, settle())
+		if x.Kind == api.ChangeSplit {
+			other.Apply(renew(3))
+		} else {
+			other.Apply(split(2, 4))
+			other.Apply(settle())
+			other.Apply(merge(3, 4))
+		}
+		n.Hear(mapMail(other, 0, 1))
+		hosts(t, "another map", n)
+		d.Crash(0)
+		hosts(t, "another map, behind a crash", opens(t, d, 1))
+	}
+}
+
 // P13.5: what a shard that waits asks for, of whom, and when.
 func TestFetch(t *testing.T) {
 	c := api.Conf{Nodes: 5, Half: 1, Blocks: 12, Voters: 1, Clients: 3, Room: 4000}
@@ -221,6 +243,11 @@ func TestPastThatWaits(t *testing.T) {
 	n.Hear(mapMail(behind(t, three(), renew(1), settle(), renew(2)), 0, 1))
 	sends(t, "both are asked for", of(ticks(n, 3), api.MailFetch),
 		fetches(1, 0, 3, false), fetches(1, 2, 3, false), fetches(1, 0, 2, true), fetches(1, 2, 2, true), fetches(1, 0, 2, false), fetches(1, 2, 2, false))
+	m, _ := begins(t, 1, three())
+	m.Hear(mapMail(behind(t, three(), renew(1), settle()), 0, 1))
+	m.Hear(mapMail(n.Map(), 0, 1))
+	sends(t, "both are asked for, as the map tells now", of(ticks(m, 3), api.MailFetch),
+		fetches(1, 0, 3, false), fetches(1, 2, 3, false), fetches(1, 0, 2, true), fetches(1, 2, 2, true), fetches(1, 0, 2, false), fetches(1, 2, 2, false))
 	n.Hear(state(0, 1, 2, store(t, 0, 12, write(0, 1, 0, "a"))))
 	hosts(t, "the past one", n, 2)
 	n.Hear(commit(0, 1, 2, decided(0, 1, freeze(), 1)))
@@ -265,7 +292,7 @@ func TestSettle(t *testing.T) {
 		}
 	}
 	n.Hear(tells(2, 0, 3))
-	if n.Tick(); !settled(n) {
+	if !settled(n) {
 		t.Error("the change doesn't end")
 	}
 	has(t, "settled", n, behind(t, c, split(1, 4), settle()))
@@ -319,6 +346,27 @@ func TestSettleByANewLeader(t *testing.T) {
 	n.Tick()
 	n.Hear(api.Mail{Kind: api.MailAppended, From: 1, To: 0, Term: 2, Ok: true, Index: 4})
 	has(t, "it leads", n, behind(t, three(), renew(1), settle()))
+}
+
+// P13.5: what was heard ahead of the change's being known counts, too; of shards that are gone nothing does.
+func TestSettleByWhatWasHeard(t *testing.T) {
+	n, _ := begins(t, 0, four())
+	for _, shard := range []int{1, 2, 3, 5} {
+		n.Hear(tells(1, 0, shard))
+		n.Hear(tells(2, 0, shard))
+	}
+	leads(t, n)
+	wishes(t, "a split", n, split(1, 4), api.OK)
+	n.Tick()
+	has(t, "both are installed", n, behind(t, four(), split(1, 4), settle()))
+	wishes(t, "a renewal", n, renew(2), api.OK)
+	n.Tick()
+	has(t, "nobody has it installed", n, behind(t, four(), split(1, 4), settle(), renew(2)))
+	n.Hear(tells(1, 0, 4))
+	n.Hear(tells(2, 0, 4))
+	wishes(t, "another renewal", n, renew(3), api.OK)
+	n.Tick()
+	has(t, "that one is installed", n, behind(t, four(), split(1, 4), settle(), renew(2), settle(), renew(3), settle()))
 }
 
 // P13.5: what a leader hasn't been told of yet may have opened other shards: no end that is meant for the last change comes behind them.

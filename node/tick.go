@@ -105,7 +105,7 @@ func (n *Node) hearLoad(l api.Load) {
 	n.loads[l.Shard] = l
 }
 
-// decide wishes the change that the rules ask for. In the first ticks nobody is known to be silent.
+// decide wishes the change that the rules ask for, if self leads. In the first ticks nobody is known to be silent.
 func (n *Node) decide() {
 	var loads []api.Load
 	for _, id := range slices.Sorted(maps.Keys(n.loads)) {
@@ -113,7 +113,7 @@ func (n *Node) decide() {
 	}
 	n.loads = map[int]api.Load{}
 	r := n.conf.Rules
-	if !n.council.Leads() || n.ticks <= r.Mute {
+	if n.ticks <= r.Mute {
 		return
 	}
 	live := []int{n.self}
