@@ -34,6 +34,7 @@ func (n *Node) hearNews(x api.News) {
 		n.base, n.based = n.told.Clone(), x.Index
 		return
 	}
+	n.toldTerm = x.Entry.Term
 	if c, e := atlas.Take(x.Entry.Text); x.Entry.Kind == kindChange && e == api.OK {
 		n.told.Apply(c)
 	}
@@ -97,7 +98,7 @@ func (n *Node) mapMail() api.Mail {
 	return api.Mail{Kind: api.MailMap, Epoch: n.atlas.Epoch(), Text: string(n.atlas.Encode())}
 }
 
-// wish offers a change, if that can be.
+// wish offers a change, if that can be. Nobody may end one ahead of time: the shards that the open ones are made of would be forgotten, and their blocks with them.
 func (n *Node) wish(c api.Change) api.Errno {
 	switch {
 	case !n.council.Leads():
@@ -109,6 +110,9 @@ func (n *Node) wish(c api.Change) api.Errno {
 	}
 	if e := n.told.Clone().Apply(c); e != api.OK {
 		return e
+	}
+	if c.Kind == api.ChangeSettle && !n.maySettle() {
+		return api.ErrBusy
 	}
 	return n.offer(kindChange, atlas.Lay(c))
 }
@@ -150,18 +154,20 @@ func (n *Node) hearChange(m api.Mail) {
 	}
 }
 
-// settle ends the change whose shards are open, if self leads and enough members have these installed. It waits till all of the log is told: an entry that it doesn't know of yet could have opened others, which nobody has installed.
-func (n *Node) settle() {
-	open := n.told.Open()
-	if !n.council.Leads() || n.council.Told() < n.council.Last() {
-		return
+// settle ends the change whose shards are open, if self leads and may end it.
+func (n *Node) settle() { n.wish(api.Change{Kind: api.ChangeSettle}) }
+
+// maySettle: is each open shard installed at enough members? As long as a leader hasn't been told of an entry of its own term, its log may have others' entries that it doesn't know of: these could open other shards, which nobody has installed.
+func (n *Node) maySettle() bool {
+	if n.toldTerm != n.council.Term() {
+		return false
 	}
-	for _, id := range open {
+	for _, id := range n.told.Open() {
 		if !n.isInstalled(id) {
-			return
+			return false
 		}
 	}
-	n.wish(api.Change{Kind: api.ChangeSettle})
+	return true
 }
 
 // mayEnd: is a shard one of a change that isn't settled, or isn't told yet, by the council's News?

@@ -183,8 +183,12 @@ func TestWish(t *testing.T) {
 	has(t, "a replacement", n, behind(t, four(), replace(1, 0, 3)))
 	wishes(t, "another one", n, renew(2), api.ErrDown)
 	wishes(t, "another one, by no node", n, replace(2, 1, 4), api.ErrArg)
-	wishes(t, "its end", n, settle(), api.OK)
+	wishes(t, "its end, ahead of time", n, settle(), api.ErrBusy)
+	has(t, "its end, ahead of time", n, behind(t, four(), replace(1, 0, 3)))
+	ends(n, 1, 2)
 	has(t, "its end", n, behind(t, four(), replace(1, 0, 3), settle()))
+	wishes(t, "behind its end", n, settle(), api.ErrNone)
+	wishes(t, "the next one", n, renew(2), api.OK)
 }
 
 // P13.9: one change after the other in a term: ErrBusy, till the last one is told.
@@ -209,6 +213,8 @@ func TestWishBusy(t *testing.T) {
 	appended(n, 2)
 	has(t, "it is told", n, behind(t, three(), split(1, 4)))
 	wishes(t, "it is told", n, renew(2), api.ErrDown)
+	wishes(t, "its end, ahead of time", n, settle(), api.ErrBusy)
+	mayEnd(t, n, 2, 3)
 	wishes(t, "its end", n, settle(), api.OK)
 	wishes(t, "behind its end", n, renew(2), api.ErrBusy)
 	appended(n, 3)
@@ -233,6 +239,7 @@ func TestWishInAnotherTerm(t *testing.T) {
 	elected(t, m)
 	wishes(t, "a change", m, renew(1), api.OK)
 	appended(m, 2)
+	mayEnd(t, m, 2)
 	if _, e := m.Elect([]int{0, 1}); e != api.OK {
 		t.Fatalf("Elect: error %d", e)
 	}
@@ -248,12 +255,16 @@ func TestWishByTheNews(t *testing.T) {
 	want := atFirst(t, three())
 	index := 1
 	for range 40 {
-		for _, c := range []api.Change{renew(want.Shards()[0].Id), settle()} {
-			wishes(t, "what the News' map has", n, c, api.OK)
-			want.Apply(c)
-			index++
-			appended(n, index)
+		c := renew(want.Shards()[0].Id)
+		wishes(t, "what the News' map has", n, c, api.OK)
+		want.Apply(c)
+		appended(n, index+1)
+		for from := 1; from <= 2; from++ {
+			n.Hear(tells(from, 0, want.Shards()[0].Id))
 		}
+		want.Apply(settle())
+		index += 2
+		appended(n, index)
 		if index == 3 {
 			// So that the newest map is ahead again: of another history, which the council knows nothing of.
 			n.Hear(mapMail(farAhead(t), 1, 0))

@@ -287,3 +287,26 @@ func decided(lead, index int, c api.Cmd, seq int, deps ...api.Ref) api.Inst {
 func commit(from, to, shard int, x api.Inst) api.Mail {
 	return api.Mail{Kind: api.MailCommit, From: from, To: to, Shard: shard, Inst: x}
 }
+
+// ends has the leader 0 hear of these nodes that they have all open shards installed, which are enough: so it ends the change, and is told so at once where it is the only voter.
+func ends(n *node.Node, by ...int) {
+	for _, shard := range n.Map().Open() {
+		for _, from := range by {
+			n.Hear(tells(from, 0, shard))
+		}
+	}
+}
+
+// mayEnd has the leader 0, of which the node 1 has told that it has these shards installed, install them, too, by the last state of the shard 1: two of three may end the change that made them, but it waits for its next tick.
+func mayEnd(t *testing.T, n *node.Node, shards ...int) {
+	t.Helper()
+	for _, shard := range shards {
+		n.Hear(tells(1, 0, shard))
+	}
+	n.Hear(state(1, 0, 1, store(t, 0, 12, freeze())))
+	for _, shard := range shards {
+		if n.Store(shard) == nil {
+			t.Fatalf("the shard %d isn't installed", shard)
+		}
+	}
+}

@@ -434,11 +434,11 @@ func TestManyChanges(t *testing.T) {
 		if len(want.Shards()) == 2 {
 			c = merge(want.Shards()[0].Id, want.Shards()[1].Id)
 		}
-		for _, c := range []api.Change{c, settle()} {
-			if _, e := n.Wish(c); e != api.OK || want.Apply(c) != api.OK {
-				t.Fatalf("change %d: %v, error %d", i, c, e)
-			}
+		if _, e := n.Wish(c); e != api.OK || want.Apply(c) != api.OK {
+			t.Fatalf("change %d: %v, error %d", i, c, e)
 		}
+		ends(n, 1, 2)
+		want.Apply(settle())
 	}
 	has(t, "behind many changes", n, want)
 	d.Crash(0)

@@ -190,7 +190,8 @@ func TestDecideByWhatIsNew(t *testing.T) {
 	wishes(t, "a renewal", n, renew(1), api.OK)
 	n.Hear(load(1, 0, 2, 30, 0, 5))
 	ticks(n, 6)
-	wishes(t, "its end", n, settle(), api.OK)
+	ends(n, 1, 2)
+	has(t, "its end", n, behind(t, four(), renew(1), settle()))
 	if i := changedAt(n, 40, nothing); i > 0 {
 		t.Errorf("it wishes with tick %d", i)
 	}
@@ -228,7 +229,8 @@ func TestDecideOfTheSilent(t *testing.T) {
 		t.Fatalf("it wishes with the tick %d and not with the 8th of these", i)
 	}
 	has(t, "2 is silent", n, behind(t, c, replace(1, 2, 4)))
-	wishes(t, "settled", n, settle(), api.OK)
+	ends(n, 1, 4)
+	has(t, "settled", n, behind(t, c, replace(1, 2, 4), settle()))
 	if i := changedAt(n, 64, from(1, 2, 3, 4)); i > 0 {
 		t.Fatalf("nobody is silent, and it wishes with tick %d", i)
 	}

@@ -30,7 +30,9 @@ func (w *world) anyChange(n int) api.Change {
 	l := w.nodes[n].Map().Shards()
 	i := w.d.Intn(len(l))
 	s := l[i]
-	switch k := w.d.Intn(4); {
+	switch k := w.d.Intn(6); {
+	case k == 5:
+		return settle()
 	case k == 0 && s.Span.To-s.Span.From > 1:
 		return api.Change{Kind: api.ChangeSplit, Shard: s.Id, At: s.Span.From + 1 + w.d.Intn(s.Span.To-s.Span.From-1)}
 	case k == 1 && i+1 < len(l):
